@@ -1,0 +1,62 @@
+"""A hall played tick by tick, straight from the words of the document, to compare the package with."""
+
+import random
+from math import lcm
+
+
+def play(takes, calls, ticks):
+    """Return the events of the ticks from 0 on, as Hall.events tells them."""
+    events = []
+    waiting = []
+    next_number = 0
+    for tick in range(ticks):
+        for _ in range(takes[tick % len(takes)]):
+            events.append(("take", tick, next_number))
+            waiting.append(next_number)
+            next_number += 1
+        for _ in range(calls[tick % len(calls)]):
+            if waiting:
+                events.append(("call", tick, waiting.pop(0)))
+    return events
+
+
+def times(events):
+    """Return a dict from each ticket number to the list of its tick of take and, if any, its tick of call."""
+    found = {}
+    for _, tick, number in events:
+        found.setdefault(number, []).append(tick)
+    return found
+
+
+def count(events, word, tick):
+    """Return how many events of a kind there are before a tick."""
+    return len([event for event in events if event[0] == word and event[1] < tick])
+
+
+def pattern(source, most_items, greatest):
+    return tuple(source.randint(0, greatest) for _ in range(source.randint(1, most_items)))
+
+
+def hall_parts():
+    """Return the parts of many different halls, the same ones in each run."""
+    source = random.Random(20)
+    parts = [
+        (2, (0,), (0,), 0),
+        (3, (2, 0), (1,), 2),
+        (2, (1,), (0, 1), 0),
+        (7, (0, 0, 5), (2, 2), 0),
+        (7, (0,), (1,), 3),
+        (7, (1,), (0,), 3),
+        (10000, (9,) * 12, (9,) * 12, 99),
+        (10000, (9,) * 12, (9,) * 11 + (8,), 99),
+        (5, (9, 9, 9, 9, 9, 9) + (0,) * 6, (4,) * 11 + (9,), 1),
+    ]
+    for _ in range(60):
+        parts.append((source.randint(2, 12), pattern(source, 5, 3), pattern(source, 5, 3), source.randint(0, 5)))
+    for _ in range(12):
+        parts.append((source.randint(2, 40), pattern(source, 12, 9), pattern(source, 12, 9), source.randint(0, 9)))
+    return parts
+
+
+def period_of(parts):
+    return lcm(len(parts[1]), len(parts[2]))

@@ -1,0 +1,1 @@
+"""Ticketwrap: tickets that show the last digits of their numbers."""
