@@ -60,3 +60,48 @@ def hall_parts():
 
 def period_of(parts):
     return lcm(len(parts[1]), len(parts[2]))
+
+
+def grows(parts):
+    return sum(parts[1]) * len(parts[2]) > sum(parts[2]) * len(parts[1])
+
+
+def ticks_of(takes, calls, lateness, ticks):
+    """Return a tuple of three lists for each tick: the tickets called in it, those that wait after it, the open ones."""
+    found = []
+    waiting = []
+    may_come = []
+    taken = 0
+    for tick in range(ticks):
+        new = list(range(taken, taken + takes[tick % len(takes)]))
+        taken += len(new)
+        called = (waiting + new)[:calls[tick % len(calls)]]
+        waiting = (waiting + new)[len(called):]
+        may_come = [(number, at) for number, at in may_come if tick <= at + lateness]
+        may_come += [(number, tick) for number in called]
+        found.append((called, list(waiting), [number for number, _ in may_come] + waiting))
+    return found
+
+
+def counts(takes, calls, ticks):
+    """Return two lists: how many tickets are taken and how many are called before each tick."""
+    taken, called = [0], [0]
+    for tick in range(ticks):
+        taken.append(taken[tick] + takes[tick % len(takes)])
+        called.append(min(taken[tick + 1], called[tick] + calls[tick % len(calls)]))
+    return taken, called
+
+
+def small_hall_parts():
+    """Return the parts of many halls with small moduli, short patterns and a small lateness, the same in each run."""
+    source = random.Random(21)
+    parts = [
+        (2, (0,), (0,), 0), (2, (0,), (3,), 4), (2, (1,), (0,), 3), (5, (2, 0), (0, 0), 0), (2, (1,), (1,), 0),
+        (2, (1,), (1,), 1), (2, (1,), (1,), 2), (3, (2, 0), (1,), 2), (2, (1,), (0, 1), 0), (4, (0, 0, 3), (2, 1), 1),
+        (2, (2, 2, 0, 0), (1,), 0), (3, (0, 0, 1), (0, 1, 0), 0), (2, (0, 0, 1), (0, 1, 0), 0), (6, (9,), (9,), 0),
+    ]
+    for _ in range(400):
+        parts.append((source.randint(2, 9), pattern(source, 4, 3), pattern(source, 4, 3), source.randint(0, 6)))
+    for _ in range(60):
+        parts.append((source.randint(2, 40), pattern(source, 6, 9), pattern(source, 6, 9), source.randint(0, 12)))
+    return parts

@@ -1,5 +1,7 @@
 """When tickets are taken and called, and what the display shows."""
 
+from math import gcd
+
 from ticketwrap.checks import check_tick, is_integer_within
 from ticketwrap.errors import InvalidNumber
 
@@ -51,6 +53,15 @@ def display(hall, tick):
     if called == 0:
         return None
     return (called - 1) % hall.modulus
+
+
+def display_cycle(hall):
+    """Return the smallest positive multiple of the period after which the display shows the same.
+
+    After the first period, the number of called tickets grows by a multiple of the modulus in that time.
+    """
+    called = hall.called(2 * hall.period) - hall.called(hall.period)
+    return hall.period * (hall.modulus // gcd(hall.modulus, called))
 
 
 def longest_wait(hall):
