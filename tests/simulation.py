@@ -105,3 +105,21 @@ def small_hall_parts():
     for _ in range(60):
         parts.append((source.randint(2, 40), pattern(source, 6, 9), pattern(source, 6, 9), source.randint(0, 12)))
     return parts
+
+
+def cycle_of(parts):
+    """Return after how many ticks the display repeats, counted period by period."""
+    modulus, takes, calls, _ = parts
+    period = period_of(parts)
+    # With this many periods, the number of called tickets surely grows by a multiple of the modulus.
+    _, called = counts(takes, calls, (modulus + 1) * period)
+    cycle = period
+    while (called[period + cycle] - called[period]) % modulus:
+        cycle += period
+    return cycle
+
+
+def displays(parts, ticks):
+    """Return the list of what the display shows after each tick."""
+    _, called = counts(parts[1], parts[2], ticks)
+    return [None if many == 0 else (many - 1) % parts[0] for many in called[1:]]

@@ -2,9 +2,12 @@
 
 import unittest
 
+from ticketwrap.bench import Bench, format_session, parse_session
 from ticketwrap.clashes import (first_clash, first_mistake, holders, least_colors, mistaken, most_open,
                                 open_tickets)
-from ticketwrap.errors import Contradiction, InvalidHall, TextFault
+from ticketwrap.comparison import first_difference, first_error
+from ticketwrap.encoding import decode, encode
+from ticketwrap.errors import Contradiction, InvalidCode, InvalidHall, InvalidOperation, TextFault
 from ticketwrap.halls import Hall
 from ticketwrap.planning import greatest_lateness, least_modulus, plan_calls
 from ticketwrap.times import display, longest_wait, ticket_times
@@ -89,6 +92,31 @@ class TestExamples(unittest.TestCase):
     def test_greatest_lateness(self):
         self.assertEqual(greatest_lateness(self.hall), 1)
 
+    def test_first_difference(self):
+        self.assertEqual(first_difference(self.hall, Hall(4, (2, 0), (1,), 2)), (3, 0, 3))
+
+    def test_first_error(self):
+        self.assertEqual(first_error(self.hall, [0, 1, 1]), 2)
+
+    def test_encode(self):
+        self.assertEqual(encode(self.hall), [84, 0, 3, 2, 2, 0, 1, 1, 2, 95])
+
+    def test_decode(self):
+        self.assertEqual(decode([84, 0, 3, 2, 2, 0, 1, 1, 2, 95]).takes, (2, 0))
+
+    def test_invalid_code(self):
+        with self.assertRaises(InvalidCode) as caught:
+            decode([84, 0, 1])
+        self.assertEqual(caught.exception.place, 2)
+
+    def test_format_session(self):
+        self.assertEqual(format_session(self.hall, [("takes", (1, 1)), ("undo",)]),
+                         "modulus 3\ntakes 2 0\ncalls 1\nlateness 2\ntakes 1 1\nundo")
+
+    def test_parse_session(self):
+        text = "modulus 3\ntakes 2 0\ncalls 1\nlateness 2"
+        self.assertEqual(parse_session(text + "\nmodulus 7")[1], [("modulus", 7)])
+
 
 class TestWatcherExamples(unittest.TestCase):
     def setUp(self):
@@ -109,6 +137,55 @@ class TestWatcherExamples(unittest.TestCase):
         self.assertEqual(self.watcher.history, [0])
         self.assertEqual(self.watcher.next_displays, [1])
         self.assertEqual(self.watcher.waits(1), [0])
+
+
+class TestBenchExamples(unittest.TestCase):
+    def setUp(self):
+        self.bench = Bench(Hall(3, (2, 0), (1,), 2))
+
+    def test_set_modulus(self):
+        self.assertEqual(self.bench.set_modulus(5), 4)
+
+    def test_set_takes(self):
+        self.assertEqual(self.bench.set_takes(1, 1), 3)
+
+    def test_set_calls(self):
+        self.assertIsNone(self.bench.set_calls(0, 1))
+
+    def test_set_lateness(self):
+        self.assertEqual(self.bench.set_lateness(0), 2)
+
+    def test_undo(self):
+        self.bench.set_lateness(0)
+        self.assertEqual([self.bench.undo(), self.bench.operations, self.bench.undo()], [True, [], False])
+
+    def test_redo(self):
+        self.bench.set_lateness(0)
+        self.bench.undo()
+        self.assertEqual([self.bench.redo(), self.bench.operations], [True, ["lateness"]])
+
+    def test_text_and_operations(self):
+        self.bench.set_modulus(7)
+        self.assertEqual(self.bench.text, "modulus 7\ntakes 2 0\ncalls 1\nlateness 2")
+        self.assertEqual(self.bench.operations, ["modulus"])
+
+    def test_save_and_restore(self):
+        self.bench.save("x")
+        self.bench.set_modulus(7)
+        self.bench.restore("x")
+        self.assertEqual(self.bench.operations, [])
+
+    def test_batch(self):
+        self.assertEqual(self.bench.batch([("modulus", 7), ("undo",)]), [4, True])
+
+    def test_invalid_operation(self):
+        with self.assertRaises(InvalidOperation) as caught:
+            self.bench.batch([("modulus",)])
+        self.assertEqual(caught.exception.place, 0)
+
+    def test_replay(self):
+        bench = Bench.replay(Hall(3, (2, 0), (1,), 2), [("takes", (1, 1))])
+        self.assertEqual(bench.text, "modulus 3\ntakes 1 1\ncalls 1\nlateness 2")
 
 
 if __name__ == "__main__":

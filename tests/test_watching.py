@@ -17,14 +17,7 @@ class Play:
 
     def __init__(self, parts):
         self.modulus = parts[0]
-        period = simulation.period_of(parts)
-        # With this many periods, the number of called tickets surely grows by a multiple of the modulus.
-        ticks = (self.modulus + 2) * period
-        _, called = simulation.counts(parts[1], parts[2], ticks)
-        cycle = period
-        while (called[period + cycle] - called[period]) % self.modulus:
-            cycle += period
-        self.first_ticks = range(period + cycle)
+        self.first_ticks = range(simulation.period_of(parts) + simulation.cycle_of(parts))
         self.shown = []
         self.queues = [[]]
         last = None
@@ -116,6 +109,20 @@ class TestCandidates(unittest.TestCase):
         # Two visitors are called in each period of one tick.
         self.assertEqual(len(Watcher(Hall(9998, (2,), (2,), 0)).candidates), 5000)
         self.assertRaises(TooMany, Watcher, Hall(10000, (2,), (2,), 0))
+
+    def test_halls_whose_displays_repeat_late(self):
+        source = random.Random(24)
+        accepted = 0
+        for _ in range(150):
+            parts = (source.randint(2, 4000), simulation.pattern(source, 6, 9), simulation.pattern(source, 6, 9), 0)
+            number = simulation.period_of(parts) + simulation.cycle_of(parts)
+            with self.subTest(parts=parts):
+                if number > 5000:
+                    self.assertRaises(TooMany, Watcher, Hall(*parts))
+                else:
+                    self.assertEqual(len(Watcher(Hall(*parts)).candidates), number)
+                    accepted += 1
+        self.assertTrue(20 < accepted < 130)
 
     def test_calls_of_growing_halls_count(self):
         # Of nine visitors in each tick, four are called.

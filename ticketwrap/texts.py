@@ -4,6 +4,7 @@ from ticketwrap.errors import TextFault
 
 HALL_WORDS = ("modulus", "takes", "calls", "lateness")
 ONE_NUMBER_WORDS = ("modulus", "lateness")
+BARE_WORDS = ("undo", "redo")
 MOST_DIGITS = 5
 
 
@@ -26,6 +27,8 @@ def read_line(line):
     if not all([is_number(text) for text in rest]):
         return word, None
     if word in ONE_NUMBER_WORDS and len(rest) != 1:
+        return word, None
+    if word in BARE_WORDS and len(rest) > 0:
         return word, None
     return word, [int(text) for text in rest]
 
